@@ -152,15 +152,20 @@ func GetNumber(b []byte, at int) (int, int, int) {
 
 // PutFloat is a float's bytes.
 func PutFloat(x float64) []byte {
-	bits := math.Float64bits(x)
-	if math.IsNaN(x) {
-		bits = nanBits
-	}
+	bits := floatBits(x)
 	var out [floatBytes]byte
 	for i := range floatBytes {
 		out[floatBytes-1-i] = byte(bits >> (8 * i))
 	}
 	return out[:]
+}
+
+// floatBits are alike just when floats are: +0 and -0 are two, every NaN is one.
+func floatBits(x float64) uint64 {
+	if math.IsNaN(x) {
+		return nanBits
+	}
+	return math.Float64bits(x)
 }
 
 // GetFloat is the float whose bytes begin at a place, the place behind it, and a code.

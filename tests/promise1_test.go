@@ -24,7 +24,28 @@ func floatText(x float64) string {
 	return fmt.Sprintf("%016x", math.Float64bits(x))
 }
 
-// bytesAsks are the calls of chapters 1 and 2 on bytes and a place.
+func cmdText(c impl.Cmd) string {
+	price := floatText(c.Price)
+	c.Price = 0
+	return fmt.Sprintf("%+v %s", c, price)
+}
+
+func eventText(e impl.Event) string {
+	cmd := cmdText(e.Cmd)
+	e.Cmd = impl.Cmd{}
+	return fmt.Sprintf("%+v %s", e, cmd)
+}
+
+// listText is nothing for an empty list, as for none.
+func listText[T any](list []T, text func(T) string) string {
+	var out strings.Builder
+	for _, one := range list {
+		out.WriteString(text(one) + ";")
+	}
+	return out.String()
+}
+
+// bytesAsks are the calls of chapters 1 to 3 on bytes, most of them with a place.
 func bytesAsks(b []byte, at int) []ask {
 	return []ask{
 		{"GetNumber", func() string { return fmt.Sprintln(impl.GetNumber(b, at)) }},
@@ -37,7 +58,43 @@ func bytesAsks(b []byte, at int) []ask {
 			return fmt.Sprintf("%q %d %d", s, next, code)
 		}},
 		{"SumOf", func() string { return fmt.Sprintln(impl.SumOf(b, at)) }},
+		{"DecodeEvent", func() string {
+			e, next, code := impl.DecodeEvent(b, at)
+			return fmt.Sprintln(eventText(e), next, code)
+		}},
+		{"DecodeEvents", func() string {
+			list, code, place := impl.DecodeEvents(b)
+			return fmt.Sprintln(listText(list, eventText), code, place)
+		}},
 	}
+}
+
+// eventAsks are the calls of chapter 3 on events.
+func eventAsks(e impl.Event) []ask {
+	return []ask{
+		{"EventOK", func() string { return fmt.Sprintln(impl.EventOK(e)) }},
+		{"EncodeEvent", func() string { return fmt.Sprintln(impl.EncodeEvent(e)) }},
+	}
+}
+
+// cmdsAsks are the calls on lists of commands.
+func cmdsAsks(list []impl.Cmd) []ask {
+	return []ask{
+		{"Normal", func() string {
+			got, code := impl.Normal(list)
+			return fmt.Sprintln(listText(got, cmdText), code)
+		}},
+	}
+}
+
+// someCmds are raw commands with all kinds of Tags and Prices, none at all and too many among the lists.
+func someCmds() [][]impl.Cmd {
+	tags, prices := append(edgeTags(), longTags()...), edgePrices()
+	var mixed []impl.Cmd
+	for i := range 40 {
+		mixed = append(mixed, impl.Cmd{Kind: i % 6, Side: i % 3, Type: i % 7, Life: i % 2, Qty: 3 * i, Id: i - 5, Price: prices[i%len(prices)], Tag: tags[i%len(tags)]})
+	}
+	return [][]impl.Cmd{nil, {}, {{}}, mixed[:1], mixed, make([]impl.Cmd, impl.MaxList), make([]impl.Cmd, impl.MaxList+1)}
 }
 
 func valueAsks() []ask {
@@ -71,6 +128,17 @@ func someAsks() []ask {
 		}
 		out = append(out, bytesAsks(b, leastInt)...)
 		out = append(out, bytesAsks(b, greatestInt)...)
+	}
+	right, wrong := rightEvents(), wrongEvents()
+	for i := 0; i < len(right); i += 5 {
+		out = append(out, eventAsks(right[i])...)
+		out = append(out, bytesAsks(wantBytes(right[i]), i%3)...)
+	}
+	for i := 0; i < len(wrong); i += 11 {
+		out = append(out, eventAsks(wrong[i])...)
+	}
+	for _, list := range someCmds() {
+		out = append(out, cmdsAsks(list)...)
 	}
 	return append(out, bytesAsks(make([]byte, impl.MaxText+1), 0)...)
 }
@@ -127,6 +195,14 @@ func TestPromise1ArgumentsStay(t *testing.T) {
 	for n := range 20 {
 		samples = append(samples, impl.PutText(someText(n)))
 	}
+	var tape []byte
+	for i, e := range rightEvents() {
+		if i%7 == 0 {
+			samples = append(samples, wantBytes(e))
+			tape = append(tape, wantBytes(e)...)
+		}
+	}
+	samples = append(samples, tape, bytes.Repeat([]byte{8, 4}, impl.MaxList+1))
 	for _, b := range samples {
 		g := guard(b)
 		for _, at := range []int{-1, 0, 1, 2, len(b) - 1, len(b), len(b) + 1} {
@@ -135,6 +211,60 @@ func TestPromise1ArgumentsStay(t *testing.T) {
 				g.check(t, a.name)
 			}
 		}
+	}
+}
+
+// TestPromise1ListsStay lays lists into the middle of greater ones, where whatever is written around them shows too.
+func TestPromise1ListsStay(t *testing.T) {
+	for _, list := range someCmds() {
+		edge := impl.Cmd{Kind: -7, Tag: "an edge that is longer than a Tag"}
+		whole := append(append([]impl.Cmd{edge, edge}, list...), edge, edge)
+		was := listText(whole, cmdText)
+		for _, a := range cmdsAsks(whole[2 : 2+len(list)]) {
+			a.call()
+			if listText(whole, cmdText) != was {
+				t.Errorf("%s wrote into its list of %d or around it", a.name, len(list))
+			}
+		}
+	}
+}
+
+// TestPromise1NewLists spoils what was answered, and what was given, and asks whether it shows in the other.
+func TestPromise1NewLists(t *testing.T) {
+	spoilCmds := func(list []impl.Cmd) {
+		whole := list[:cap(list)]
+		for i := range whole {
+			whole[i] = impl.Cmd{Kind: -9, Tag: "spoiled"}
+		}
+	}
+	for _, list := range someCmds() {
+		given := append(make([]impl.Cmd, 0, len(list)+3), list...)
+		got, _ := impl.Normal(given)
+		was := listText(got, cmdText)
+		spoilCmds(given)
+		if listText(got, cmdText) != was {
+			t.Error("Normal's answer shares memory with its list")
+		}
+		given = append(given[:0], list...)
+		want := listText(given[:cap(given)], cmdText)
+		again, _ := impl.Normal(given)
+		spoilCmds(got)
+		spoilCmds(again)
+		if listText(given[:cap(given)], cmdText) != want {
+			t.Error("Normal's list shares memory with its answer")
+		}
+		if third, _ := impl.Normal(given); listText(third, cmdText) != was {
+			t.Error("Normal keeps the memory of its answers")
+		}
+	}
+	b := wantBytes(fullEvent(impl.EvAccept))
+	e, _, _ := impl.DecodeEvent(b, 0)
+	one, _, _ := impl.DecodeEvents(b)
+	two, _, _ := impl.DecodeEvents(b)
+	clear(b)
+	one[0] = impl.Event{}
+	if want := fullEvent(impl.EvAccept); e != want || two[0] != want {
+		t.Errorf("what was read became %+v and %+v with the bytes that it was read from", e, two[0])
 	}
 }
 
@@ -157,6 +287,12 @@ func TestPromise1NewMemory(t *testing.T) {
 	}
 	for _, s := range []string{"", "abc", someText(12), someText(13), strings.Repeat("x", impl.MaxText)} {
 		puts = append(puts, ask{"PutText", func() string { return spoil(impl.PutText(s)) }})
+	}
+	for kind := 1; kind <= kindsOfEvents; kind++ {
+		puts = append(puts, ask{"EncodeEvent", func() string {
+			b, _ := impl.EncodeEvent(fullEvent(kind))
+			return spoil(b)
+		}})
 	}
 	for _, p := range puts {
 		if one, two := p.call(), p.call(); one != two {
@@ -192,10 +328,33 @@ func TestPromise1WhateverIsGiven(t *testing.T) {
 				t.Fatalf("reading %d of %v at %d: %v", i, b, at, r)
 			}
 		}
+		checkWhateverEvent(t, b, at)
 		impl.SumOf(b, int(p.next()))
 		impl.Ticks(math.Float64frombits(p.next()))
 		impl.CodeWord(int(p.next()))
 		impl.CodeOf(string(b))
 		impl.NameOK(string(b))
+	}
+}
+
+// checkWhateverEvent asks that an answer on any bytes is one of those that the document knows.
+func checkWhateverEvent(t *testing.T, b []byte, at int) {
+	t.Helper()
+	e, next, code := impl.DecodeEvent(b, at)
+	inside := at >= 0 && at <= len(b)
+	zero := next == 0 && sameEvent(e, impl.Event{})
+	switch {
+	case code == impl.OK && inside && next > at && next <= len(b) && impl.EventOK(e):
+	case code == impl.ErrForm && inside && zero:
+	case code == impl.ErrRange && !inside && zero:
+	default:
+		t.Fatalf("DecodeEvent(%v, %d) = %+v, %d, %d", b, at, e, next, code)
+	}
+	list, code, place := impl.DecodeEvents(b)
+	switch {
+	case code == impl.OK && place == 0 && len(list) <= len(b)/2:
+	case code == impl.ErrForm && place >= 0 && place < len(b) && len(list) == 0:
+	default:
+		t.Fatalf("DecodeEvents(%v) = %+v, %d, %d", b, list, code, place)
 	}
 }
