@@ -97,6 +97,39 @@ func someCmds() [][]impl.Cmd {
 	return [][]impl.Cmd{nil, {}, {{}}, mixed[:1], mixed, make([]impl.Cmd, impl.MaxList), make([]impl.Cmd, impl.MaxList+1)}
 }
 
+func orderText(o impl.Order) string { return fmt.Sprintf("%+v", o) }
+
+func bookText(b impl.Book) string {
+	return fmt.Sprintln(b.Next, listText(b.Orders, orderText))
+}
+
+// bookAsks are the calls of chapter 4.
+func bookAsks(b impl.Book, side int) []ask {
+	return []ask{
+		{"BookOK", func() string { return fmt.Sprintln(impl.BookOK(b)) }},
+		{"Front", func() string { return fmt.Sprintln(impl.Front(b, side)) }},
+		{"Queue", func() string {
+			list, code := impl.Queue(b, side)
+			return fmt.Sprintln(listText(list, orderText), code)
+		}},
+		{"Levels", func() string {
+			list, code := impl.Levels(b)
+			return fmt.Sprintln(listText(list, func(l impl.Level) string { return fmt.Sprintf("%+v", l) }), code)
+		}},
+	}
+}
+
+// someBooks are right and wrong ones, with both sides, one, and none.
+func someBooks() []impl.Book {
+	out := []impl.Book{{}, {Next: 1}, ordinaryBook(), fullBook(), behind(fullBook(), fullBook())}
+	p := picker{44}
+	for range 40 {
+		b := pickBook(&p)
+		out = append(out, b, spoilBook(&p, b))
+	}
+	return out
+}
+
 func valueAsks() []ask {
 	var out []ask
 	for _, n := range edgeNumbers() {
@@ -139,6 +172,9 @@ func someAsks() []ask {
 	}
 	for _, list := range someCmds() {
 		out = append(out, cmdsAsks(list)...)
+	}
+	for i, b := range someBooks() {
+		out = append(out, bookAsks(b, anySides[i%3])...)
 	}
 	return append(out, bytesAsks(make([]byte, impl.MaxText+1), 0)...)
 }
@@ -229,14 +265,58 @@ func TestPromise1ListsStay(t *testing.T) {
 	}
 }
 
-// TestPromise1NewLists spoils what was answered, and what was given, and asks whether it shows in the other.
-func TestPromise1NewLists(t *testing.T) {
-	spoilCmds := func(list []impl.Cmd) {
-		whole := list[:cap(list)]
-		for i := range whole {
-			whole[i] = impl.Cmd{Kind: -9, Tag: "spoiled"}
+// TestPromise1BooksStay lays the orders of books into the middle of greater lists.
+func TestPromise1BooksStay(t *testing.T) {
+	for _, b := range someBooks() {
+		edge := impl.Order{Id: -7, Tag: "an edge that is longer than a Tag"}
+		whole := append(append([]impl.Order{edge, edge}, b.Orders...), edge, edge)
+		was := listText(whole, orderText)
+		b.Orders = whole[2 : 2+len(b.Orders)]
+		for _, side := range anySides {
+			for _, a := range bookAsks(b, side) {
+				a.call()
+				if listText(whole, orderText) != was {
+					t.Fatalf("%s wrote into the orders of a book or around them", a.name)
+				}
+			}
 		}
 	}
+}
+
+// TestPromise1NewQueues spoils what was answered, and what was given, and asks whether it shows in the other.
+func TestPromise1NewQueues(t *testing.T) {
+	for _, b := range someBooks() {
+		for _, side := range anySides {
+			given := impl.Book{Next: b.Next, Orders: append(make([]impl.Order, 0, len(b.Orders)+3), b.Orders...)}
+			one, _ := impl.Queue(given, side)
+			two, _ := impl.Queue(given, side)
+			ones, _ := impl.Levels(given)
+			twos, _ := impl.Levels(given)
+			want := listText(two, orderText) + fmt.Sprint(twos)
+			fill(one, impl.Order{Id: -9, Tag: "spoiled"})
+			fill(ones, impl.Level{Side: -9})
+			if bookText(given) != bookText(b) {
+				t.Fatalf("a book shares memory with an answer: %s", showBook(b))
+			}
+			fill(given.Orders, impl.Order{Id: -8, Tag: "spoiled"})
+			if listText(two, orderText)+fmt.Sprint(twos) != want {
+				t.Fatalf("an answer shares memory with its book or with another answer: %s", showBook(b))
+			}
+		}
+	}
+}
+
+// fill writes over all of a list's memory, behind its end too.
+func fill[T any](list []T, with T) {
+	whole := list[:cap(list)]
+	for i := range whole {
+		whole[i] = with
+	}
+}
+
+// TestPromise1NewLists spoils what was answered, and what was given, and asks whether it shows in the other.
+func TestPromise1NewLists(t *testing.T) {
+	spoilCmds := func(list []impl.Cmd) { fill(list, impl.Cmd{Kind: -9, Tag: "spoiled"}) }
 	for _, list := range someCmds() {
 		given := append(make([]impl.Cmd, 0, len(list)+3), list...)
 		got, _ := impl.Normal(given)
@@ -334,6 +414,23 @@ func TestPromise1WhateverIsGiven(t *testing.T) {
 		impl.CodeWord(int(p.next()))
 		impl.CodeOf(string(b))
 		impl.NameOK(string(b))
+	}
+}
+
+// anyOrder has any numbers at all.
+func anyOrder(p *picker) impl.Order {
+	n := func() int { return int(p.next()) >> p.below(64) }
+	return impl.Order{Id: n(), Side: n(), Ticks: n(), Left: n(), Life: n(), Tag: string(p.bytes(p.below(16)))}
+}
+
+func TestPromise1WhateverBook(t *testing.T) {
+	p := picker{45}
+	for range 20000 {
+		b := impl.Book{Next: int(p.next()) >> p.below(64)}
+		for range p.below(30) {
+			b.Orders = append(b.Orders, anyOrder(&p))
+		}
+		checkBook(t, "whatever book", b, wantBookOK(b))
 	}
 }
 
