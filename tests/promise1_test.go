@@ -84,6 +84,10 @@ func cmdsAsks(list []impl.Cmd) []ask {
 			got, code := impl.Normal(list)
 			return fmt.Sprintln(listText(got, cmdText), code)
 		}},
+		{"RunScript", func() string {
+			log, code := impl.RunScript(list)
+			return fmt.Sprintln(logText(log), code)
+		}},
 	}
 }
 
@@ -94,7 +98,8 @@ func someCmds() [][]impl.Cmd {
 	for i := range 40 {
 		mixed = append(mixed, impl.Cmd{Kind: i % 6, Side: i % 3, Type: i % 7, Life: i % 2, Qty: 3 * i, Id: i - 5, Price: prices[i%len(prices)], Tag: tags[i%len(tags)]})
 	}
-	return [][]impl.Cmd{nil, {}, {{}}, mixed[:1], mixed, make([]impl.Cmd, impl.MaxList), make([]impl.Cmd, impl.MaxList+1)}
+	p := picker{71}
+	return [][]impl.Cmd{nil, {}, {{}}, mixed[:1], mixed, toldScript(), pickScript(&p, 60), pickScript(&p, impl.MaxCmds), make([]impl.Cmd, impl.MaxList), make([]impl.Cmd, impl.MaxList+1)}
 }
 
 func orderText(o impl.Order) string { return fmt.Sprintf("%+v", o) }
@@ -175,6 +180,12 @@ func someAsks() []ask {
 	}
 	for i, b := range someBooks() {
 		out = append(out, bookAsks(b, anySides[i%3])...)
+		for _, c := range someStepCmds(i) {
+			out = append(out, stepAsks(b, c)...)
+		}
+	}
+	for _, groups := range someGroups() {
+		out = append(out, groupsAsks(groups)...)
 	}
 	return append(out, bytesAsks(make([]byte, impl.MaxText+1), 0)...)
 }
