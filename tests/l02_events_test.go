@@ -29,10 +29,31 @@ const kindsOfEvents = 9
 var wholeFields = []string{"cmd.kind", "cmd.side", "cmd.type", "cmd.life", "cmd.qty", "cmd.id", "id", "other", "qty", "price", "reason"}
 
 func field(e *impl.Event, name string) *int {
-	return map[string]*int{
-		"cmd.kind": &e.Cmd.Kind, "cmd.side": &e.Cmd.Side, "cmd.type": &e.Cmd.Type, "cmd.life": &e.Cmd.Life, "cmd.qty": &e.Cmd.Qty, "cmd.id": &e.Cmd.Id,
-		"id": &e.Id, "other": &e.Other, "qty": &e.Qty, "price": &e.Price, "reason": &e.Reason,
-	}[name]
+	switch name {
+	case "cmd.kind":
+		return &e.Cmd.Kind
+	case "cmd.side":
+		return &e.Cmd.Side
+	case "cmd.type":
+		return &e.Cmd.Type
+	case "cmd.life":
+		return &e.Cmd.Life
+	case "cmd.qty":
+		return &e.Cmd.Qty
+	case "cmd.id":
+		return &e.Cmd.Id
+	case "id":
+		return &e.Id
+	case "other":
+		return &e.Other
+	case "qty":
+		return &e.Qty
+	case "price":
+		return &e.Price
+	case "reason":
+		return &e.Reason
+	}
+	return nil
 }
 
 func tells(kind int, name string) bool {

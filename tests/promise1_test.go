@@ -187,6 +187,9 @@ func someAsks() []ask {
 	for _, groups := range someGroups() {
 		out = append(out, groupsAsks(groups)...)
 	}
+	for _, one := range ruleSamples() {
+		out = append(out, ruleAsks(one.book, one.events, one.e)...)
+	}
 	return append(out, bytesAsks(make([]byte, impl.MaxText+1), 0)...)
 }
 
