@@ -88,6 +88,7 @@ func cmdsAsks(list []impl.Cmd) []ask {
 			log, code := impl.RunScript(list)
 			return fmt.Sprintln(logText(log), code)
 		}},
+		{"TapeOf", func() string { return fmt.Sprintln(impl.TapeOf(list)) }},
 	}
 }
 
@@ -189,6 +190,12 @@ func someAsks() []ask {
 	}
 	for _, one := range ruleSamples() {
 		out = append(out, ruleAsks(one.book, one.events, one.e)...)
+	}
+	for _, tape := range someTapes() {
+		out = append(out, tapeAsks(tape)...)
+	}
+	for _, one := range frameSamples() {
+		out = append(out, frameAsks(one.group, one.totals, one.sum)...)
 	}
 	return append(out, bytesAsks(make([]byte, impl.MaxText+1), 0)...)
 }
