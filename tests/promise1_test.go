@@ -197,6 +197,16 @@ func someAsks() []ask {
 	for _, one := range frameSamples() {
 		out = append(out, frameAsks(one.group, one.totals, one.sum)...)
 	}
+	for i, b := range someBooks() {
+		for k, totals := range someTotals() {
+			if i%3 == k%3 {
+				out = append(out, figuresAsks(totals, b)...)
+			}
+		}
+	}
+	for _, list := range someFloats() {
+		out = append(out, floatsAsks(list)...)
+	}
 	return append(out, bytesAsks(make([]byte, impl.MaxText+1), 0)...)
 }
 
