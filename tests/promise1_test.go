@@ -207,6 +207,12 @@ func someAsks() []ask {
 	for _, list := range someFloats() {
 		out = append(out, floatsAsks(list)...)
 	}
+	for _, text := range someTexts() {
+		out = append(out, textAsks(text)...)
+	}
+	for _, e := range someSayings() {
+		out = append(out, sayingAsks(e)...)
+	}
 	return append(out, bytesAsks(make([]byte, impl.MaxText+1), 0)...)
 }
 
